@@ -1,0 +1,1 @@
+"""Bidmover: a walker that is moved by whoever bids more coins."""

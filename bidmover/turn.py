@@ -1,7 +1,7 @@
 """A turn: when a standing is ended, and how bid and answer are settled."""
 
 from bidmover.errors import BadBid, OutOfRange
-from bidmover.names import other
+from bidmover.names import check_hand, other
 
 MOST_TURNS = 30
 MOST_COINS = 20
@@ -9,9 +9,9 @@ MOST_COINS = 20
 
 # The words of these refusals leave the number out: Python itself refuses to
 # write a very great one as a text.
-def check_turns(turns):
-    if turns < 0 or turns > MOST_TURNS:
-        raise OutOfRange(f"turns go from 0 to {MOST_TURNS}")
+def check_up_to(number, most):
+    if number < 0 or number > most:
+        raise OutOfRange(f"it goes from 0 to {most}")
 
 
 def check_coins(north, south):
@@ -24,9 +24,16 @@ def check_bid(named, coins):
         raise BadBid("a hand names from 0 to all its coins")
 
 
+def check_standing(board, place, turns, north, south, ribbon):
+    board.check_place(place)
+    check_up_to(turns, MOST_TURNS)
+    check_coins(north, south)
+    check_hand(ribbon)
+
+
 def ended(board, place, turns):
     board.check_place(place)
-    check_turns(turns)
+    check_up_to(turns, MOST_TURNS)
     if board.is_goal(place):
         return "north"
     if turns == 0 or len(board.ways(place)) == 0:

@@ -28,6 +28,8 @@ STATEMENTS = (
     ast.Assign, ast.AugAssign, ast.If, ast.While, ast.For, ast.Return, ast.Break, ast.Continue, ast.Pass, ast.Raise,
     ast.Try, ast.Expr, ast.FunctionDef, ast.ClassDef, ast.ImportFrom,
 )
+WALKED = {"zip", "enumerate", "reversed", "range", "items", "keys", "values"}
+WALKERS = {"list", "tuple", "dict", "sorted", "sum", "any", "all", "enumerate", "zip", "min", "max", "join"}
 EXPRESSIONS = (
     ast.Constant, ast.List, ast.Tuple, ast.Dict, ast.Set, ast.BinOp, ast.UnaryOp, ast.Compare, ast.BoolOp, ast.IfExp,
     ast.Call, ast.Attribute, ast.Subscript, ast.Slice, ast.ListComp, ast.JoinedStr, ast.FormattedValue, ast.Name,
@@ -48,6 +50,20 @@ def each_node():
     for path in modules():
         for node in ast.walk(tree_of(path)):
             yield f"{path.name}:{getattr(node, 'lineno', 0)}", node
+
+
+def each_child():
+    """Each node of the package that stands within another, with that one and where it stands."""
+    for where, node in each_node():
+        for child in ast.iter_child_nodes(node):
+            yield where, node, child
+
+
+def called(node):
+    """The name or method that a call calls, None of any other node."""
+    if not isinstance(node, ast.Call):
+        return None
+    return node.func.attr if isinstance(node.func, ast.Attribute) else getattr(node.func, "id", None)
 
 
 def names_at_the_top(tree):
@@ -197,6 +213,38 @@ class LanguageTest(unittest.TestCase):
                 if isinstance(node, ast.Attribute) and isinstance(node.ctx, ast.Store):
                     values.add(node.attr)
         self.assertEqual(methods & values, set())
+
+    def test_no_local_is_called_like_a_class_or_an_import(self):
+        for path in modules():
+            tree = tree_of(path)
+            taken = {node.name for node in tree.body if isinstance(node, ast.ClassDef)}
+            for node in tree.body:
+                if isinstance(node, ast.ImportFrom):
+                    taken |= {alias.name for alias in node.names}
+            for function in [node for node in ast.walk(tree) if isinstance(node, ast.FunctionDef)]:
+                parts = list(ast.walk(function))
+                names = {part.arg for part in parts if isinstance(part, ast.arg)}
+                names |= {part.id for part in parts if isinstance(part, ast.Name) and isinstance(part.ctx, ast.Store)}
+                with self.subTest(file=path.name, function=function.name):
+                    self.assertEqual(names & taken, set())
+
+    def test_an_error_is_made_where_it_is_raised(self):
+        errors = names_at_the_top(tree_of(PACKAGE / "errors.py"))
+        for where, node in each_node():
+            if isinstance(node, ast.Raise):
+                self.assertIn(called(node.exc), errors, where)
+
+    def test_what_is_walked_is_walked_at_once(self):
+        for where, node, child in each_child():
+            if called(child) in WALKED:
+                walks = isinstance(node, (ast.For, ast.comprehension)) and node.iter is child
+                self.assertTrue(walks or called(node) in WALKERS, where)
+
+    def test_sets_are_not_kept(self):
+        for where, node, child in each_child():
+            if called(child) in ("set", "frozenset") or isinstance(child, ast.Set):
+                fleeting = isinstance(node, (ast.Compare, ast.BinOp)) or called(node) in ("len", "sorted")
+                self.assertTrue(fleeting, where)
 
 
 if __name__ == "__main__":

@@ -5,10 +5,9 @@ import unittest
 from bidmover.board import Board
 from bidmover.errors import BadBid, BadHand, NoPlace, OutOfRange
 from bidmover.turn import MOST_COINS, MOST_TURNS, ended, settle
-from helper import GREAT, Case, small_board
+from helper import GREAT, NO_HANDS, Case, small_board
 
 BAD_TURNS = (-1, 31, 10 ** 20, -10 ** 20, GREAT, -GREAT)
-NO_HANDS = ("", "North", "south ", "n", "northsouth", "~" * 40)
 
 
 class EndedTest(Case):
